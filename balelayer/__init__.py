@@ -1,0 +1,1 @@
+"""Bales laid down: which bales of cotton are laid down together."""
