@@ -18,6 +18,16 @@ def are_as_told(bales):
     return True
 
 
+def all_kilograms(bales):
+    """The kilograms of all the bales."""
+    return sum(bales[0::2])
+
+
+def weighed_lengths(bales):
+    """Of each bale its kilograms times how long, together: what all kilograms divide to the average."""
+    return sum([weight * length for weight, length in zip(bales[0::2], bales[1::2])])
+
+
 def mean(bales):
     """How long all are on the average, rounded down, then all kilograms, then the longest; or -22 alone."""
     if not are_as_told(bales):
@@ -25,7 +35,59 @@ def mean(bales):
     # Without bales there are no kilograms to divide by.
     if len(bales) == 0:
         return [0, 0, 0]
-    kilograms = bales[0::2]
-    lengths = bales[1::2]
-    together = sum([weight * length for weight, length in zip(kilograms, lengths)])
-    return [together // sum(kilograms), sum(kilograms), max(lengths)]
+    kilograms = all_kilograms(bales)
+    return [weighed_lengths(bales) // kilograms, kilograms, max(bales[1::2])]
+
+
+def choices_of(k, count):
+    """All choices of k of the bales 0 to count - 1, each told rising, in the order in which they first differ."""
+    choices = [[]]
+    for place in range(k):
+        longer = []
+        for chosen in choices:
+            first = chosen[-1] + 1 if len(chosen) > 0 else 0
+            for bale in range(first, count):
+                longer.append(chosen + [bale])
+        choices = longer
+    return choices
+
+
+def only(chosen, bales):
+    """The chosen bales alone, told as all are."""
+    told = []
+    for bale in chosen:
+        told.extend(bales[2 * bale:2 * bale + 2])
+    return told
+
+
+def how_far(t, bales):
+    """How far the bales, one at least, are from t: the two numbers of a fraction, the upper one first."""
+    kilograms = all_kilograms(bales)
+    return (abs(weighed_lengths(bales) - t * kilograms), kilograms)
+
+
+def is_less(one, other):
+    """Whether one fraction is less than the other; crosswise, as a quotient rounded down would lose the rest."""
+    return one[0] * other[1] < other[0] * one[1]
+
+
+def nearest(k, t, bales):
+    """The k bales that are the least far from t, told rising, of at least k."""
+    choices = choices_of(k, len(bales) // 2)
+    best = choices[0]
+    for chosen in choices[1:]:
+        # One that is as far stays behind: the earlier choice has the lesser bale where they first differ.
+        if is_less(how_far(t, only(chosen, bales)), how_far(t, only(best, bales))):
+            best = chosen
+    return best
+
+
+def pick(k, t, bales):
+    """How far the nearest k bales to t are, rounded down, then these, told rising; or -22 or -33 alone."""
+    if not are_as_told(bales) or k < 1 or k > MOST_BALES or t > LONGEST_FIBRES:
+        return [-22]
+    if len(bales) // 2 < k:
+        return [-33]
+    chosen = nearest(k, t, bales)
+    distance = how_far(t, only(chosen, bales))
+    return [distance[0] // distance[1]] + chosen

@@ -1,15 +1,11 @@
 """Promise 1: balelayer.bales.mean, and what the document says ahead of it."""
 
-import contextlib
-import inspect
-import io
 import itertools
 import unittest
 from fractions import Fraction
 
 from balelayer.bales import mean
-
-LARGEST = 4294967295
+from tests.helper import CallTests, WrongBalesTests
 
 
 class Ordinary(unittest.TestCase):
@@ -67,40 +63,8 @@ class Edges(unittest.TestCase):
         self.assertEqual(mean([100, 0, 100, 500]), [250, 200, 500])
 
 
-class Refused(unittest.TestCase):
-    def check(self, bales):
-        with self.subTest(bales=bales):
-            self.assertEqual(mean(bales), [-22])
-
-    def test_an_odd_list(self):
-        self.check([100])
-        self.check([0])
-        self.check([100, 250, 100])
-        self.check([100, 250] * 8 + [100])
-        self.check([100, 250] * 9 + [100])
-
-    def test_a_tenth_bale(self):
-        self.check([100, 250] * 10)
-        self.check([1, 0] * 10)
-
-    def test_kilograms_out_of_bounds_at_each_place(self):
-        self.check_each_place(0, [0, 301, LARGEST])
-
-    def test_fibres_out_of_bounds_at_each_place(self):
-        self.check_each_place(1, [501, LARGEST])
-
-    def check_each_place(self, offset, wrong_numbers):
-        for count in (1, 2, 9):
-            for place, wrong in itertools.product(range(count), wrong_numbers):
-                bales = [100, 250] * count
-                bales[2 * place + offset] = wrong
-                self.check(bales)
-
-    def test_several_faults_are_one_refusal(self):
-        self.check([0, 501])
-        self.check([LARGEST, LARGEST])
-        self.check([301, 501, 0])
-        self.check([0, LARGEST] * 10)
+class WrongBales(WrongBalesTests, unittest.TestCase):
+    function = staticmethod(mean)
 
 
 class Against(unittest.TestCase):
@@ -121,62 +85,19 @@ class Against(unittest.TestCase):
         self.assertTrue(min(lengths) <= answer[0] <= max(lengths))
 
 
-class Call(unittest.TestCase):
-    CALLS = ([], [217, 283], [100, 280, 50, 310], [300, 500] * 9, [100], [0, 250], [100, 501], [100, 250] * 10)
-
-    def test_what_is_handed_in_stays(self):
-        for bales in self.CALLS:
-            handed_in = list(bales)
-            mean(handed_in)
-            self.assertEqual(handed_in, bales)
-
-    def test_it_is_not_changed_for_a_while_either(self):
-        for bales in self.CALLS:
-            self.assertEqual(mean(Frozen(bales)), mean(bales))
-
-    def test_a_second_call_answers_as_the_first(self):
-        first = [mean(list(bales)) for bales in self.CALLS]
-        second = [mean(list(bales)) for bales in self.CALLS]
-        backwards = [mean(list(bales)) for bales in reversed(self.CALLS)]
-        self.assertEqual(second, first)
-        self.assertEqual(backwards, first[::-1])
-
-    def test_each_call_gives_back_a_list_of_its_own(self):
-        for bales in self.CALLS:
-            first = mean(bales)
-            kept = list(first)
-            first.append(7)
-            first[0] = 8
-            self.assertEqual(mean(bales), kept)
-
-    def test_the_answer_is_a_list_of_whole_numbers(self):
-        for bales in self.CALLS:
-            answer = mean(bales)
-            self.assertIs(type(answer), list)
-            for number in answer:
-                self.assertIs(type(number), int)
-
-    def test_the_argument_is_called_bales(self):
-        self.assertEqual(list(inspect.signature(mean).parameters), ["bales"])
-        self.assertEqual(mean(bales=[217, 283]), [283, 217, 283])
-
-    def test_nothing_is_printed(self):
-        printed = io.StringIO()
-        with contextlib.redirect_stdout(printed), contextlib.redirect_stderr(printed):
-            for bales in self.CALLS:
-                mean(bales)
-        self.assertEqual(printed.getvalue(), "")
-
-
-def refuse_change(self, *given, **named):
-    raise AssertionError("what is handed in was changed")
-
-
-class Frozen(list):
-    """A list that tells when it is changed, even if it is put back afterwards."""
-
-    __setitem__ = __delitem__ = __iadd__ = __imul__ = refuse_change
-    append = clear = extend = insert = pop = remove = reverse = sort = refuse_change
+class Call(CallTests, unittest.TestCase):
+    function = staticmethod(mean)
+    arguments = ("bales",)
+    calls = (
+        ([],),
+        ([217, 283],),
+        ([100, 280, 50, 310],),
+        ([300, 500] * 9,),
+        ([100],),
+        ([0, 250],),
+        ([100, 501],),
+        ([100, 250] * 10,),
+    )
 
 
 if __name__ == "__main__":
