@@ -4,6 +4,8 @@ MOST_BALES = 9
 LEAST_KILOGRAMS = 1
 MOST_KILOGRAMS = 300
 LONGEST_FIBRES = 500
+MOST_OF_A_DAY = 4
+MOST_LET = 500
 
 
 def are_as_told(bales):
@@ -91,3 +93,52 @@ def pick(k, t, bales):
     chosen = nearest(k, t, bales)
     distance = how_far(t, only(chosen, bales))
     return [distance[0] // distance[1]] + chosen
+
+
+def are_alike(t, tol, bales):
+    """Whether the bales, one at least, are at most tol far from t."""
+    return not is_less((tol, 1), how_far(t, bales))
+
+
+def possible_days(k, t, tol, bales):
+    """All k bales that are alike, each told rising, in the order in which they first differ."""
+    return [chosen for chosen in choices_of(k, len(bales) // 2) if are_alike(t, tol, only(chosen, bales))]
+
+
+def how_many(laid):
+    """How many days are laid down: the highest that is told of a bale, 0 without bales."""
+    return max(laid, default=0)
+
+
+def are_left(day, laid):
+    """Whether no bale of the day is in one that is laid down."""
+    return all([laid[bale] == 0 for bale in day])
+
+
+def with_day(day, laid):
+    """What is laid down with this day behind the others."""
+    number = how_many(laid) + 1
+    return [number if bale in day else before for bale, before in enumerate(laid)]
+
+
+def all_ways(possible, count):
+    """All ways to lay down possible days, told as of each bale its day and one more, or 0; those taken first ahead."""
+    ways = [[0] * count]
+    for least in range(count):
+        days_with_it = [day for day in possible if day[0] == least]
+        longer = []
+        for laid in ways:
+            longer.extend([with_day(day, laid) for day in days_with_it if are_left(day, laid)])
+            # Behind those with a day comes none; a bale that an earlier day has stays in that one.
+            longer.append(laid)
+        ways = longer
+    return ways
+
+
+def days(k, t, tol, bales):
+    """How many days the most are, of k bales within tol of t, then of each bale its day; or -22 alone."""
+    if not are_as_told(bales) or k < 1 or k > MOST_OF_A_DAY or t > LONGEST_FIBRES or tol > MOST_LET:
+        return [-22]
+    # Of ways that come to as many days max takes the first.
+    laid = max(all_ways(possible_days(k, t, tol, bales), len(bales) // 2), key=how_many)
+    return [how_many(laid)] + laid

@@ -4,8 +4,61 @@ import contextlib
 import inspect
 import io
 import itertools
+from fractions import Fraction
 
 LARGEST = 4294967295
+
+
+def some_bales(lists, count, kilograms, shortest, lengths):
+    """So many lists of bales, the same each time: kilograms of 1 on, lengths of the shortest on, so many of each."""
+    for start in range(lists):
+        yield [
+            (
+                1 + (start * 71 + place * place * 37 + place) % kilograms,
+                shortest + (start * 113 + place * place * 59 + place * 17) % lengths,
+            )
+            for place in range(count)
+        ]
+
+
+def how_far(t, bales):
+    """How far the bales, told as pairs, are from t."""
+    all_kilograms = sum(kilograms for kilograms, length in bales)
+    return abs(Fraction(sum(kilograms * length for kilograms, length in bales), all_kilograms) - t)
+
+
+def alike_days(k, t, tol, bales):
+    """All k of the bales, told as pairs, that are at most tol far from t."""
+    every = itertools.combinations(range(len(bales)), k)
+    return [day for day in every if how_far(t, [bales[bale] for bale in day]) <= tol]
+
+
+def most_that_are_apart(k, possible, count):
+    """All choices of the most of the possible days, of k out of count bales, of which no two share a bale."""
+    for number in range(count // k, -1, -1):
+        every = itertools.combinations(possible, number)
+        found = [chosen for chosen in every if len({bale for day in chosen for bale in day}) == number * k]
+        if found:
+            return found
+
+
+def steps_of(chosen, count):
+    """What becomes of the least bale that is left, step by step: of two choices the one taken has the lesser steps."""
+    others = {day[0]: day[1:] for day in chosen}
+    not_least = {bale for day in chosen for bale in day[1:]}
+    left = [bale for bale in range(count) if bale not in not_least]
+    return [(0, others[bale]) if bale in others else (1, ()) for bale in left]
+
+
+def most_days(k, t, tol, bales):
+    """What days is to answer of the bales, told as pairs."""
+    every = most_that_are_apart(k, alike_days(k, t, tol, bales), len(bales))
+    chosen = min(every, key=lambda choice: steps_of(choice, len(bales)))
+    numbers = [0] * len(bales)
+    for number, day in enumerate(sorted(chosen), start=1):
+        for bale in day:
+            numbers[bale] = number
+    return [len(chosen), *numbers]
 
 
 class WrongBalesTests:
